@@ -1,0 +1,1 @@
+"""Trees and woods of a web that share no tie, and what stands in their way."""
