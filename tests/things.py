@@ -1,6 +1,6 @@
 """What several tests need: things of any kind, and webs to look at."""
 
-import copy
+import functools
 import itertools
 
 from treesapart.layout import made_web
@@ -79,8 +79,9 @@ def some_numbers(web):
     return chosen + [list(every)]
 
 
+@functools.cache
 def partings_of(places):
-    """All partings of so many places, each as a sorted list of rising lists."""
+    """All partings of so many places, each as a sorted list of rising lists, for looking at only."""
     found = [[[0]]]
     for place in range(1, places):
         found = [grown for parting in found for grown in grown_by(parting, place)]
@@ -89,10 +90,8 @@ def partings_of(places):
 
 def grown_by(parting, place):
     """The partings that a parting becomes when one more place is put into it."""
-    grown = [copy.deepcopy(parting) for _ in parting]
-    for at, one in enumerate(grown):
-        one[at].append(place)
-    return grown + [copy.deepcopy(parting) + [[place]]]
+    grown = [parting[:at] + [parting[at] + [place]] + parting[at + 1:] for at in range(len(parting))]
+    return grown + [parting + [[place]]]
 
 
 def as_tuples(lists):

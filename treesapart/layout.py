@@ -4,6 +4,7 @@ from treesapart.errors import NoTie, NoWeb, TooMany
 
 MOST_PLACES = 9
 MOST_TIES = 30
+MOST_WOODS = 30
 
 
 def is_whole(thing):
@@ -34,6 +35,11 @@ def refuse_layout(places, pairs, most):
     for at, pair in enumerate(pairs):
         if not is_pair(places, pair):
             raise NoTie(at)
+
+
+def every_number(web):
+    """The numbers of all ties of a web."""
+    return list(range(len(web[1])))
 
 
 def made_web(places, ties):

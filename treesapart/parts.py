@@ -16,6 +16,12 @@ def parts_by(web, numbers):
             for mark in range(places) if least[mark] == mark]
 
 
+def joined(places, groups):
+    """The parting of so many places in which each group of places stands in one part."""
+    pairs = tuple((group[0], place) for group in groups for place in group[1:])
+    return parts_by((places, pairs), list(range(len(pairs))))
+
+
 def is_listed(thing):
     """Whether anything is a list, or a tuple in its stead."""
     return isinstance(thing, (list, tuple))

@@ -1,0 +1,124 @@
+"""Tests go over told papers themselves: nothing here asks the program, but for which web to look at."""
+
+import copy
+import itertools
+import unittest
+
+
+def pieces(places, pairs):
+    """The sets of these places that hang together by the pairs."""
+    found = [{place} for place in places]
+    for pair in pairs:
+        hit = [piece for piece in found if piece & set(pair)]
+        found = [piece for piece in found if piece not in hit] + [set().union(*hit)]
+    return found
+
+
+def ties_of(web, numbers):
+    return [web[1][number] for number in numbers]
+
+
+def without_ring(web, numbers):
+    return len(pieces(range(web[0]), ties_of(web, numbers))) == web[0] - len(numbers)
+
+
+def crossing(web, parting):
+    """The numbers of the ties between the parts."""
+    return [number for number, (a, b) in enumerate(web[1])
+            if not any(a in part and b in part for part in parting)]
+
+
+def lying_in(web, places):
+    """The numbers of the ties inside the places."""
+    return [number for number, tie in enumerate(web[1]) if set(tie) <= set(places)]
+
+
+def sets_of(places, least=1):
+    """All sets of at least so many of the places, as rising lists."""
+    places = list(places)
+    return [list(some) for many in range(least, len(places) + 1)
+            for some in itertools.combinations(places, many)]
+
+
+def are_full(web, woods, places):
+    """Whether each wood holds these places together by its ties inside them."""
+    inner = set(lying_in(web, places))
+    return len(places) > 1 and all(
+        len(pieces(places, ties_of(web, [number for number in wood if number in inner]))) == 1
+        for wood in woods)
+
+
+def lists_in(thing):
+    """All lists in an answer, the same one as often as it stands there."""
+    if not isinstance(thing, (list, tuple)):
+        return []
+    found = [thing] if isinstance(thing, list) else []
+    return found + [one for part in thing for one in lists_in(part)]
+
+
+class Papers(unittest.TestCase):
+    def assert_whole(self, *things):
+        for thing in things:
+            self.assertIs(type(thing), int)
+
+    def assert_rising(self, told, beyond):
+        """A rising list of numbers from 0 on, each below this one."""
+        self.assertIs(type(told), list)
+        self.assert_whole(*told)
+        self.assertEqual(told, sorted(set(told)))
+        self.assertTrue(all(0 <= one < beyond for one in told), told)
+
+    def assert_apart(self, web, woods, many):
+        """So many woods, each as numbers, that share no tie."""
+        self.assertIs(type(woods), list)
+        self.assertEqual(len(woods), many)
+        for wood in woods:
+            self.assert_rising(wood, len(web[1]))
+            self.assertTrue(without_ring(web, wood), (web, wood))
+        held = [number for wood in woods for number in wood]
+        self.assertEqual(len(held), len(set(held)), (web, woods))
+
+    def assert_trees(self, web, trees, k):
+        self.assert_apart(web, trees, k)
+        for tree in trees:
+            self.assertEqual(len(tree), web[0] - 1, (web, trees))
+
+    def assert_parting(self, web, parting):
+        self.assertIs(type(parting), list)
+        for part in parting:
+            self.assert_rising(part, web[0])
+            self.assertTrue(part)
+        self.assertEqual(parting, sorted(parting))
+        self.assertEqual(sorted(itertools.chain(*parting)), list(range(web[0])))
+
+    def assert_too_few(self, web, parting, k):
+        self.assert_parting(web, parting)
+        self.assertLess(len(crossing(web, parting)), k * (len(parting) - 1), (web, parting, k))
+
+    def assert_places(self, web, places):
+        """Some places, two at least."""
+        self.assert_rising(places, web[0])
+        self.assertGreater(len(places), 1)
+
+    def assert_full(self, web, woods, places):
+        self.assert_places(web, places)
+        self.assertTrue(are_full(web, woods, places), (web, woods, places))
+
+    def assert_own(self, ask):
+        """What is told is the asker's own, list by list, and is told again."""
+        first, second = ask(), ask()
+        kept = copy.deepcopy(first)
+        self.assertEqual(second, kept)
+        lists = lists_in(first) + lists_in(second)
+        self.assertEqual(len({id(one) for one in lists}), len(lists), first)
+        for one in lists_in(first):
+            one[:] = one[1:] + ["changed"]
+            self.assertEqual(second, kept)
+            self.assertEqual(ask(), kept)
+
+    def assert_refused(self, kind, ask, *handed):
+        """The refusal of what is handed in, which is of this very kind."""
+        with self.assertRaises(kind) as caught:
+            ask(*handed)
+        self.assertIs(type(caught.exception), kind)
+        return caught.exception

@@ -1,0 +1,66 @@
+"""Many webs to look at, always the same ones."""
+
+import random
+
+from treesapart.layout import made_web
+
+
+def any_ties(rng, places, ties):
+    """So many ties between any places of a list."""
+    return [tuple(rng.sample(places, 2)) for _ in range(ties if len(places) > 1 else 0)]
+
+
+def any_tree(rng, places):
+    """The ties of a tree over the places of a list."""
+    order = rng.sample(places, len(places))
+    return [(order[at], rng.choice(order[:at])) for at in range(1, len(order))]
+
+
+def loose(rng, most):
+    places = list(range(rng.randint(1, most)))
+    return len(places), any_ties(rng, places, rng.randint(0, 30))
+
+
+def treelike(rng, most):
+    """Trees laid together and a few more ties."""
+    places = list(range(rng.randint(2, most)))
+    ties = []
+    for _ in range(rng.randint(1, 30 // (len(places) - 1))):
+        ties += any_tree(rng, places)
+    return len(places), (ties + any_ties(rng, places, rng.randint(0, 4)))[:30]
+
+
+def clumps(rng, most):
+    """Two clumps of places with few ties between."""
+    places = list(range(rng.randint(2, most)))
+    cut = rng.randint(1, len(places) - 1)
+    ties = any_ties(rng, places[:cut], rng.randint(0, 13)) + any_ties(rng, places[cut:], rng.randint(0, 13))
+    bridges = [(rng.choice(places[:cut]), rng.choice(places[cut:])) for _ in range(rng.randint(0, 4))]
+    return len(places), ties + bridges
+
+
+def thick(rng, most):
+    """Two or three places with up to thirty ties."""
+    places = list(range(rng.randint(2, min(3, most))))
+    return len(places), any_ties(rng, places, rng.randint(0, 30))
+
+
+def many_webs(seed, count, most=9):
+    """So many webs of at most so many places, of all these kinds."""
+    rng = random.Random(seed)
+    webs = []
+    for at in range(count):
+        places, ties = (loose, treelike, clumps, thick)[at % 4](rng, most)
+        rng.shuffle(ties)
+        webs.append(made_web(places, ties))
+    return webs
+
+
+EDGES = [
+    made_web(1, []), made_web(2, []), made_web(9, []),
+    made_web(2, [(0, 1)]), made_web(2, [(0, 1)] * 2), made_web(2, [(1, 0)] * 29), made_web(2, [(0, 1)] * 30),
+    made_web(3, [(0, 1)] * 30), made_web(3, [(0, 1), (1, 2), (0, 2)] * 10), made_web(9, [(0, 8)] * 30),
+    made_web(4, [(0, 1), (0, 2), (0, 3), (1, 2), (1, 3), (2, 3)] * 5),
+    made_web(9, [(at, (at + step) % 9) for step in (1, 2, 4) for at in range(9)]),
+    made_web(6, [(a, b) for b in range(6) for a in range(b)] * 2),
+]

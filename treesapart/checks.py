@@ -1,0 +1,29 @@
+"""What is refused alike in several places; each thing that is looked at may be anything."""
+
+from treesapart.errors import NoCount, NoPlace, NoSuch
+from treesapart.layout import is_place, is_whole
+
+
+def is_within(thing, low, high):
+    """Whether anything is a whole number from low to high."""
+    return is_whole(thing) and low <= thing <= high
+
+
+def refuse_count(thing, low, high):
+    """Refuse what is no number of trees or woods from low to high."""
+    if not is_within(thing, low, high):
+        raise NoCount(f"this is no whole number from {low} to {high}")
+
+
+def refuse_number(web, thing):
+    """Refuse what is the number of no tie of the web."""
+    if not is_within(thing, 0, len(web[1]) - 1):
+        raise NoSuch("this is the number of no tie")
+
+
+def refuse_two_places(web, a, b):
+    """Refuse what are no two unlike places of the web."""
+    if not is_place(web[0], a) or not is_place(web[0], b):
+        raise NoPlace("this is no place")
+    if a == b:
+        raise NoPlace("these are the same place")
