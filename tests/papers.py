@@ -104,6 +104,34 @@ class Papers(unittest.TestCase):
         self.assert_places(web, places)
         self.assertTrue(are_full(web, woods, places), (web, woods, places))
 
+    def assert_amounts(self, told, most):
+        """A list with a whole number for each tie, from 0 to the one in most."""
+        self.assertIs(type(told), list)
+        self.assertEqual(len(told), len(most))
+        self.assert_whole(*told)
+        self.assertTrue(all(0 <= one <= bound for one, bound in zip(told, most)), (told, most))
+
+    def assert_splits(self, web, amounts, splits, many, just):
+        """One split for each place: none to it, and many, or at most many, to each other one."""
+        self.assertIs(type(splits), list)
+        self.assertEqual(len(splits), web[0])
+        for root, split in enumerate(splits):
+            self.assert_amounts(split, amounts)
+            come = [0] * web[0]
+            for (a, b), amount, part in zip(web[1], amounts, split):
+                come[a] += part
+                come[b] += amount - part
+            self.assertEqual(come.pop(root), 0)
+            if just:
+                self.assertEqual(come, [many] * (web[0] - 1))
+            self.assertLessEqual(max(come, default=0), many)
+
+    def assert_thick(self, web, strengths, places, many):
+        """Places, two at least, inside which the strengths are together too many."""
+        self.assert_places(web, places)
+        together = sum(strengths[number] for number in lying_in(web, places))
+        self.assertGreater(together, many * (len(places) - 1), (web, strengths, places))
+
     def assert_own(self, ask):
         """What is told is the asker's own, list by list, and is told again."""
         first, second = ask(), ask()

@@ -64,3 +64,33 @@ EDGES = [
     made_web(9, [(at, (at + step) % 9) for step in (1, 2, 4) for at in range(9)]),
     made_web(6, [(a, b) for b in range(6) for a in range(b)] * 2),
 ]
+
+GREAT = 10 ** 59 + 7
+
+
+def strengths_for(web, rng):
+    """Strengths of all kinds: none, ones, small ones, one great, all great, and small ones times a great one."""
+    many = len(web[1])
+    one_great = [rng.randint(0, 3) for _ in range(many)]
+    if many:
+        one_great[rng.randrange(many)] = GREAT
+    return [
+        [0] * many, [1] * many, one_great, [GREAT] * many,
+        [rng.randint(0, 3) for _ in range(many)],
+        [rng.randint(0, 10 ** 60 - 1) for _ in range(many)],
+        [rng.randint(0, 3) * GREAT for _ in range(many)],
+        [rng.choice((0, 1, 50, GREAT, rng.randint(0, 10 ** 30))) for _ in range(many)],
+    ]
+
+
+def odd_strengths(many, things):
+    """Things that are no strengths of so many ties."""
+    right = [1] * many
+    # Among these are things of as many signs, bytes or keys as there are ties; yet they are no list.
+    odd = [None, "", "1" * many, 1, 0, {}, {number: 1 for number in range(many)}, set(), True, b"\x01" * many,
+           range(many), right + [1], tuple(right + [0]), [right], (right, right), iter(right)]
+    if many:
+        odd += [[], (), right[1:], tuple(right[1:])]
+        for thing in things + [-1, -10 ** 59]:
+            odd += [[thing] + right[1:], right[1:] + [thing], tuple(right[1:]) + (thing,)]
+    return odd

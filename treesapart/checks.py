@@ -1,7 +1,8 @@
 """What is refused alike in several places; each thing that is looked at may be anything."""
 
-from treesapart.errors import NoCount, NoPlace, NoSuch
+from treesapart.errors import NoCount, NoPlace, NoStrengths, NoSuch
 from treesapart.layout import is_place, is_whole
+from treesapart.parts import is_listed
 
 
 def is_within(thing, low, high):
@@ -13,6 +14,25 @@ def refuse_count(thing, low, high):
     """Refuse what is no number of trees or woods from low to high."""
     if not is_within(thing, low, high):
         raise NoCount(f"this is no whole number from {low} to {high}")
+
+
+def is_amount(thing):
+    """Whether anything is a whole number from 0 on."""
+    return is_whole(thing) and thing >= 0
+
+
+def refuse_amount(thing):
+    """Refuse what is no whole number from 0 on."""
+    if not is_amount(thing):
+        raise NoCount("this is no whole number from 0 on")
+
+
+def refuse_strengths(web, thing):
+    """Refuse what is no list with a strength for each tie of the web."""
+    if not is_listed(thing) or len(thing) != len(web[1]):
+        raise NoStrengths("this is no list with as many strengths as there are ties")
+    if not all(is_amount(strength) for strength in thing):
+        raise NoStrengths("a strength is a whole number from 0 on")
 
 
 def refuse_number(web, thing):
