@@ -4,6 +4,8 @@ import copy
 import itertools
 import unittest
 
+from tests.things import partings_of
+
 
 def pieces(places, pairs):
     """The sets of these places that hang together by the pairs."""
@@ -46,6 +48,29 @@ def are_full(web, woods, places):
     return len(places) > 1 and all(
         len(pieces(places, ties_of(web, [number for number in wood if number in inner]))) == 1
         for wood in woods)
+
+
+def most_of(web, strengths):
+    """The greatest k for which no parting has too little strength, of two places or more."""
+    between = [(sum(strengths[number] for number in crossing(web, parting)), len(parting) - 1)
+               for parting in partings_of(web[0]) if len(parting) > 1]
+    return min(together // parts for together, parts in between)
+
+
+def entered(lane_web, places):
+    """The numbers of the lanes that lead from elsewhere to one of the places."""
+    return [number for number, (a, b) in enumerate(lane_web[1]) if b in places and a not in places]
+
+
+def leading_in(lane_web, strengths, places):
+    """The strengths of the lanes that enter the places, together."""
+    return sum(strengths[number] for number in entered(lane_web, places))
+
+
+def least_in(lane_web, strengths, root):
+    """The least that leads into some places without the root, of two places or more."""
+    others = [place for place in range(lane_web[0]) if place != root]
+    return min(leading_in(lane_web, strengths, places) for places in sets_of(others))
 
 
 def lists_in(thing):
@@ -125,6 +150,33 @@ class Papers(unittest.TestCase):
             if just:
                 self.assertEqual(come, [many] * (web[0] - 1))
             self.assertLessEqual(max(come, default=0), many)
+
+    def assert_share(self, web, strengths, k, share, splits):
+        self.assert_amounts(share, strengths)
+        self.assertEqual(sum(share), k * (web[0] - 1))
+        self.assert_splits(web, share, splits, k, True)
+
+    def assert_too_weak(self, web, strengths, parting, k):
+        self.assert_parting(web, parting)
+        together = sum(strengths[number] for number in crossing(web, parting))
+        self.assertLess(together, k * (len(parting) - 1), (web, strengths, parting))
+
+    def assert_flow(self, lane_web, strengths, told, start, goal, amount):
+        """A flow from start to goal of this amount."""
+        self.assert_amounts(told, strengths)
+        kept = [0] * lane_web[0]
+        for (a, b), one in zip(lane_web[1], told):
+            kept[a] -= one
+            kept[b] += one
+        wanted = [0] * lane_web[0]
+        wanted[start], wanted[goal] = -amount, amount
+        self.assertEqual(kept, wanted, (lane_web, strengths, told, start, goal))
+
+    def assert_without_root(self, lane_web, root, places):
+        """Some places, one at least, without the root."""
+        self.assert_rising(places, lane_web[0])
+        self.assertTrue(places)
+        self.assertNotIn(root, places)
 
     def assert_thick(self, web, strengths, places, many):
         """Places, two at least, inside which the strengths are together too many."""

@@ -2,35 +2,18 @@
 
 import random
 
-from tests.papers import Papers, crossing
-from tests.things import odd_things, partings_of
+from tests.papers import Papers, most_of
+from tests.things import odd_amounts, odd_things
 from tests.webs import EDGES, GREAT, many_webs, odd_strengths, strengths_for
 from treesapart.errors import NoCount, NoMost, NoStrengths
 from treesapart.layout import made_web
 from treesapart.packing import most_trees
 from treesapart.sharing import most_share, share_or_parting
 
-ODD_COUNTS = odd_things() + [-1, -2, -10 ** 59]
-
-
-def most_of(web, strengths):
-    """The greatest k for which no parting has too little strength, of two places or more."""
-    between = [(sum(strengths[number] for number in crossing(web, parting)), len(parting) - 1)
-               for parting in partings_of(web[0]) if len(parting) > 1]
-    return min(together // parts for together, parts in between)
+ODD_COUNTS = odd_amounts()
 
 
 class Sharing(Papers):
-    def assert_share(self, web, strengths, k, share, splits):
-        self.assert_amounts(share, strengths)
-        self.assertEqual(sum(share), k * (web[0] - 1))
-        self.assert_splits(web, share, splits, k, True)
-
-    def assert_too_weak(self, web, strengths, parting, k):
-        self.assert_parting(web, parting)
-        together = sum(strengths[number] for number in crossing(web, parting))
-        self.assertLess(together, k * (len(parting) - 1), (web, strengths, parting))
-
     def assert_answer(self, web, strengths, k, told):
         """Go over the share, or the parting; whether there is a share."""
         self.assertIs(type(told), tuple)

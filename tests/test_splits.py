@@ -3,13 +3,13 @@
 import random
 
 from tests.papers import Papers, lying_in, sets_of
-from tests.things import odd_things
+from tests.things import odd_amounts, odd_things
 from tests.webs import EDGES, GREAT, many_webs, odd_strengths, strengths_for
 from treesapart.errors import NoCount, NoStrengths
 from treesapart.layout import made_web
 from treesapart.splits import fewest_for, splits_or_thick
 
-ODD_COUNTS = odd_things() + [-1, -2, -10 ** 59]
+ODD_COUNTS = odd_amounts()
 
 
 def wanted(web, strengths):

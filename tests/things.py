@@ -56,6 +56,16 @@ def odd_things():
     ]
 
 
+def odd_amounts():
+    """Things that are no whole number from 0 on."""
+    return odd_things() + [-1, -2, -10 ** 59]
+
+
+def odd_from(low, beyond):
+    """Things that are no whole number from low to beyond - 1."""
+    return odd_things() + [low - 1, low - 2, -10 ** 59, beyond, beyond + 1, 10 ** 59]
+
+
 def some_webs():
     """Webs of all sizes: bare ones, full ones, rings, lines, and ties that lie beside others."""
     webs = [made_web(places, []) for places in range(1, 10)]

@@ -2,6 +2,7 @@
 
 import random
 
+from treesapart.lanes import made_lanes
 from treesapart.layout import made_web
 
 
@@ -16,9 +17,9 @@ def any_tree(rng, places):
     return [(order[at], rng.choice(order[:at])) for at in range(1, len(order))]
 
 
-def loose(rng, most):
+def loose(rng, most, room=30):
     places = list(range(rng.randint(1, most)))
-    return len(places), any_ties(rng, places, rng.randint(0, 30))
+    return len(places), any_ties(rng, places, rng.randint(0, room))
 
 
 def treelike(rng, most):
@@ -45,16 +46,70 @@ def thick(rng, most):
     return len(places), any_ties(rng, places, rng.randint(0, 30))
 
 
-def many_webs(seed, count, most=9):
-    """So many webs of at most so many places, of all these kinds."""
+def made_by(make, kinds, seed, count, most):
+    """So many webs, or lane webs, of at most so many places, of each kind by turns."""
     rng = random.Random(seed)
-    webs = []
+    found = []
     for at in range(count):
-        places, ties = (loose, treelike, clumps, thick)[at % 4](rng, most)
+        places, ties = kinds[at % len(kinds)](rng, most)
         rng.shuffle(ties)
-        webs.append(made_web(places, ties))
-    return webs
+        found.append(make(places, ties))
+    return found
 
+
+def many_webs(seed, count, most=9):
+    return made_by(made_web, (loose, treelike, clumps, thick), seed, count, most)
+
+
+def loose_lanes(rng, most):
+    return loose(rng, most, 60)
+
+
+def any_spread(rng, root, others):
+    """The lanes of a spread out of the root."""
+    order = [root] + rng.sample(others, len(others))
+    return [(rng.choice(order[:at]), order[at]) for at in range(1, len(order))]
+
+
+def spreadlike(rng, most):
+    """Spreads out of one place laid together, and a few more lanes."""
+    many = rng.randint(2, most)
+    root, *others = rng.sample(range(many), many)
+    lanes = [lane for _ in range(rng.randint(1, 60 // (many - 1))) for lane in any_spread(rng, root, others)]
+    return many, (lanes + any_ties(rng, range(many), rng.randint(0, 4)))[:60]
+
+
+def round_about(rng, most):
+    """Rounds through all places, the one way or the other, which lead from everywhere to everywhere."""
+    places = list(range(rng.randint(2, most)))
+    lanes = []
+    for _ in range(rng.randint(1, 60 // len(places))):
+        order = rng.sample(places, len(places))
+        lanes += [(order[at - 1], order[at]) for at in range(len(order))]
+    return len(places), lanes
+
+
+def lane_clumps(rng, most):
+    """Two clumps of places with few lanes between, perhaps the one way only."""
+    places = list(range(rng.randint(2, most)))
+    cut = rng.randint(1, len(places) - 1)
+    lanes = any_ties(rng, places[:cut], rng.randint(0, 26)) + any_ties(rng, places[cut:], rng.randint(0, 26))
+    bridges = [(rng.choice(places[:cut]), rng.choice(places[cut:])) for _ in range(rng.randint(0, 4))]
+    return len(places), lanes + bridges + [(b, a) for a, b in bridges[:rng.randint(0, 4)]]
+
+
+def many_lane_webs(seed, count, most=9):
+    return made_by(made_lanes, (loose_lanes, spreadlike, round_about, lane_clumps), seed, count, most)
+
+
+LANE_EDGES = [
+    made_lanes(1, []), made_lanes(2, []), made_lanes(9, []), made_lanes(2, [(0, 1)]), made_lanes(2, [(1, 0)]),
+    made_lanes(2, [(0, 1), (1, 0)] * 30), made_lanes(2, [(1, 0)] * 60), made_lanes(9, [(0, 8)] * 60),
+    made_lanes(3, [(0, 1), (1, 2), (2, 0)] * 20), made_lanes(4, [(0, 1), (1, 2), (2, 1), (3, 2), (2, 3)]),
+    made_lanes(9, [(at, at + 1) for at in range(8)]), made_lanes(9, [(at + 1, at) for at in range(8)]),
+    made_lanes(9, [(at, (at + step) % 9) for step in (1, 2, 4, 5, 7, 8) for at in range(9)]),
+    made_lanes(8, [(a, b) for a in range(8) for b in range(8) if a != b]),
+]
 
 EDGES = [
     made_web(1, []), made_web(2, []), made_web(9, []),

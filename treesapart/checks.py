@@ -28,7 +28,7 @@ def refuse_amount(thing):
 
 
 def refuse_strengths(web, thing):
-    """Refuse what is no list with a strength for each tie of the web."""
+    """Refuse what is no list with a strength for each tie of the web, or lane of the lane web."""
     if not is_listed(thing) or len(thing) != len(web[1]):
         raise NoStrengths("this is no list with as many strengths as there are ties")
     if not all(is_amount(strength) for strength in thing):
@@ -36,14 +36,20 @@ def refuse_strengths(web, thing):
 
 
 def refuse_number(web, thing):
-    """Refuse what is the number of no tie of the web."""
+    """Refuse what is the number of no tie of the web, or lane of the lane web."""
     if not is_within(thing, 0, len(web[1]) - 1):
         raise NoSuch("this is the number of no tie")
 
 
-def refuse_two_places(web, a, b):
-    """Refuse what are no two unlike places of the web."""
-    if not is_place(web[0], a) or not is_place(web[0], b):
+def refuse_place(web, thing):
+    """Refuse what is no place of the web, or lane web."""
+    if not is_place(web[0], thing):
         raise NoPlace("this is no place")
+
+
+def refuse_two_places(web, a, b):
+    """Refuse what are no two unlike places of the web, or lane web."""
+    refuse_place(web, a)
+    refuse_place(web, b)
     if a == b:
         raise NoPlace("these are the same place")

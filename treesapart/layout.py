@@ -4,7 +4,9 @@ from treesapart.errors import NoTie, NoWeb, TooMany
 
 MOST_PLACES = 9
 MOST_TIES = 30
+MOST_LANES = 60
 MOST_WOODS = 30
+MOST_TREES = 12
 
 
 def is_whole(thing):
