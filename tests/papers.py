@@ -57,6 +57,11 @@ def most_of(web, strengths):
     return min(together // parts for together, parts in between)
 
 
+def made_of(strengths, number, strength):
+    """The strengths, this tie's made of another one."""
+    return strengths[:number] + [strength] + strengths[number + 1:]
+
+
 def entered(lane_web, places):
     """The numbers of the lanes that lead from elsewhere to one of the places."""
     return [number for number, (a, b) in enumerate(lane_web[1]) if b in places and a not in places]
@@ -71,6 +76,16 @@ def least_in(lane_web, strengths, root):
     """The least that leads into some places without the root, of two places or more."""
     others = [place for place in range(lane_web[0]) if place != root]
     return min(leading_in(lane_web, strengths, places) for places in sets_of(others))
+
+
+def are_spread(lane_web, root, numbers):
+    """Whether none of the lanes leads to the root, just one to each other place, and one comes there by them."""
+    lanes = [lane_web[1][number] for number in numbers]
+    reached = {root}
+    for _ in lanes:
+        reached |= {b for a, b in lanes if a in reached}
+    ends = sorted([root] + [b for a, b in lanes])
+    return ends == list(range(lane_web[0])) == sorted(reached)
 
 
 def lists_in(thing):
@@ -160,6 +175,37 @@ class Papers(unittest.TestCase):
         self.assert_parting(web, parting)
         together = sum(strengths[number] for number in crossing(web, parting))
         self.assertLess(together, k * (len(parting) - 1), (web, strengths, parting))
+
+    def assert_used(self, web, strengths, k, lists):
+        """k lists of numbers, each tie in at most as many as its strength; how many have each tie."""
+        self.assertIs(type(lists), list)
+        self.assertEqual(len(lists), k)
+        times = [0] * len(web[1])
+        for numbers in lists:
+            self.assert_rising(numbers, len(web[1]))
+            for number in numbers:
+                times[number] += 1
+        self.assert_amounts(times, strengths)
+        return times
+
+    def assert_strong(self, web, strengths, k, trees):
+        """k trees, each tie in at most as many as its strength."""
+        self.assert_used(web, strengths, k, trees)
+        for tree in trees:
+            self.assertEqual(len(tree), web[0] - 1, (web, trees))
+            self.assertTrue(without_ring(web, tree), (web, tree))
+
+    def assert_spreads(self, lane_web, strengths, root, k, spreads):
+        """k spreads, each lane in at most as many as its strength; how many use each lane."""
+        times = self.assert_used(lane_web, strengths, k, spreads)
+        for spread in spreads:
+            self.assertTrue(are_spread(lane_web, root, spread), (lane_web, root, spread))
+        return times
+
+    def assert_too_little(self, lane_web, strengths, root, k, places):
+        """Some places, one at least, without the root, into which less than k leads."""
+        self.assert_without_root(lane_web, root, places)
+        self.assertLess(leading_in(lane_web, strengths, places), k, (lane_web, strengths, root, places))
 
     def assert_flow(self, lane_web, strengths, told, start, goal, amount):
         """A flow from start to goal of this amount."""

@@ -54,8 +54,7 @@ class Flows(Papers):
             self.assert_flows(lane_web, strengths, root, k, told[1])
         else:
             self.assertEqual(told[0], "places")
-            self.assert_without_root(lane_web, root, told[1])
-            self.assertLess(leading_in(lane_web, strengths, told[1]), k, (lane_web, strengths, root, told))
+            self.assert_too_little(lane_web, strengths, root, k, told[1])
         return told[0] == "flows"
 
     def assert_most(self, lane_web, strengths, root):

@@ -2,7 +2,7 @@
 
 import random
 
-from tests.papers import Papers, most_of, without_ring
+from tests.papers import Papers, most_of
 from tests.things import odd_from, odd_things
 from tests.webs import EDGES, GREAT, many_webs, odd_strengths, strengths_for
 from treesapart.errors import NoCount, NoStrengths
@@ -15,19 +15,6 @@ ODD_COUNTS = odd_from(1, 13) + [30]
 
 
 class Strong(Papers):
-    def assert_strong(self, web, strengths, k, trees):
-        """k trees, each tie in at most as many as its strength."""
-        self.assertIs(type(trees), list)
-        self.assertEqual(len(trees), k)
-        times = [0] * len(web[1])
-        for tree in trees:
-            self.assert_rising(tree, len(web[1]))
-            self.assertEqual(len(tree), web[0] - 1, (web, trees))
-            self.assertTrue(without_ring(web, tree), (web, tree))
-            for number in tree:
-                times[number] += 1
-        self.assert_amounts(times, strengths)
-
     def assert_answer(self, web, strengths, k):
         """Go over the trees, or the parting; whether there are trees."""
         told = strong_trees(web, strengths, k)

@@ -2,7 +2,7 @@
 
 import random
 
-from tests.papers import Papers, crossing, most_of
+from tests.papers import Papers, crossing, made_of, most_of
 from tests.things import odd_amounts, odd_from, odd_things
 from tests.webs import EDGES, GREAT, many_webs, odd_strengths, strengths_for
 from treesapart.errors import NoCount, NoStrengths, NoSuch, NoTrees
@@ -10,11 +10,6 @@ from treesapart.firm import used
 from treesapart.layout import made_web
 from treesapart.sharing import most_share, share_or_parting
 from treesapart.uses import least_use
-
-
-def made_of(strengths, number, strength):
-    """The strengths, this tie's made of another one."""
-    return strengths[:number] + [strength] + strengths[number + 1:]
 
 
 def some_ties(rng, web):

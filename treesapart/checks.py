@@ -27,12 +27,18 @@ def refuse_amount(thing):
         raise NoCount("this is no whole number from 0 on")
 
 
+def refuse_strength(thing):
+    """Refuse what is no strength."""
+    if not is_amount(thing):
+        raise NoStrengths("a strength is a whole number from 0 on")
+
+
 def refuse_strengths(web, thing):
     """Refuse what is no list with a strength for each tie of the web, or lane of the lane web."""
     if not is_listed(thing) or len(thing) != len(web[1]):
         raise NoStrengths("this is no list with as many strengths as there are ties")
-    if not all(is_amount(strength) for strength in thing):
-        raise NoStrengths("a strength is a whole number from 0 on")
+    for strength in thing:
+        refuse_strength(strength)
 
 
 def refuse_number(web, thing):

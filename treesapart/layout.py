@@ -28,10 +28,15 @@ def is_pair(places, thing):
     return is_place(places, a) and is_place(places, b) and a != b
 
 
-def refuse_layout(places, pairs, most):
-    """Refuse what no web of at most so many ties can be made of."""
+def refuse_size(places):
+    """Refuse what is no number of places."""
     if not is_whole(places) or not 1 <= places <= MOST_PLACES:
         raise NoWeb(f"places are a whole number from 1 to {MOST_PLACES}")
+
+
+def refuse_layout(places, pairs, most):
+    """Refuse what no web of at most so many ties can be made of."""
+    refuse_size(places)
     if len(pairs) > most:
         raise TooMany(f"there are more than {most} in the list")
     for at, pair in enumerate(pairs):
